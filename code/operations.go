@@ -4,8 +4,11 @@ import (
 	"rewind/api"
 )
 
-// superStep: Super's B is this many times the number of a class, and how many arguments there are.
-const superStep = 64
+// SuperStep: Super's B is this many times the number of a class, and how many arguments there are.
+const SuperStep = 64
+
+// Packed: a List whose B is this makes no list of the program's but a pack, a box of its values: so a closure holds more than MaxList of them. Cap, LoadCap and StoreCap whose B is above 0 mean what lies at B - 1 in the pack at A.
+const Packed = 1
 
 // namesRight: is an instruction one of these, and is there what it names?
 func namesRight(m *Image, f *Func, i Instr) bool {
@@ -23,7 +26,7 @@ func namesRight(m *Image, f *Func, i Instr) bool {
 	case Send:
 		return text(m, i.A) && fewValues(i.B)
 	case Super:
-		return text(m, i.A) && i.B >= 0 && below(i.B/superStep, len(m.Classes)) && fewValues(i.B%superStep)
+		return text(m, i.A) && i.B >= 0 && below(i.B/SuperStep, len(m.Classes)) && fewValues(i.B%SuperStep)
 	case New:
 		return below(i.A, len(m.Classes)) && fewValues(i.B)
 	case Call:
@@ -66,7 +69,7 @@ func stack(i Instr) (takes, leaves int) {
 	case Send, Call:
 		return i.B + 1, 1
 	case Super:
-		return i.B%superStep + 1, 1
+		return i.B%SuperStep + 1, 1
 	case New, CallFn, Closure:
 		return i.B, 1
 	}
