@@ -171,7 +171,7 @@ func TestRoomAgain(t *testing.T) {
 // sameDone: an image does what its program does, up to the end.
 func sameDone(t *testing.T, text string) string {
 	t.Helper()
-	got, want := run(mustCompile(t, text), nil), walk(mustParse(t, text), nil)
+	got, want := run(t, mustCompile(t, text), nil), walk(mustParse(t, text), nil)
 	if told(got) != told(want) {
 		t.Errorf("%.300q: does %s, want %s", text, told(got), told(want))
 	}

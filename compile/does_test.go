@@ -162,7 +162,7 @@ func TestSize(t *testing.T) {
 	sure := func(value, want string) {
 		t.Helper()
 		text := "var s = \"" + strings.Repeat("x", api.MaxString/2) + "\"; var l = [1, 2, 3, 4, 5]; l = l + l + l + l + l; print(len(" + value + "));"
-		got := run(mustCompile(t, text), nil)
+		got := run(t, mustCompile(t, text), nil)
 		if last := got[len(got)-1]; outs(got) != want || (last.Kind == api.Done) != (want != "") {
 			t.Errorf("%s: %s, want %s", value, told(got), want)
 		}

@@ -12,7 +12,7 @@ import (
 func TestAnyProgram(t *testing.T) {
 	d := &drawer{seed: 4}
 	found := map[string]int{}
-	for range 10_000 {
+	for range 6_000 {
 		text := d.program()
 		n, err := syntax.Parse(text)
 		if err != nil {
@@ -30,7 +30,7 @@ func TestAnyProgram(t *testing.T) {
 		wantRuns(t, text, m)
 		inputs := []int{7, 0, -1}
 		events := walk(n, inputs)
-		if got, want := told(run(m, inputs)), told(events); got != want {
+		if got, want := told(run(t, m, inputs)), told(events); got != want {
 			t.Fatalf("%s\ndoes %s, want %s", text, got, want)
 		}
 		for _, e := range events {

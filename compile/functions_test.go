@@ -95,7 +95,7 @@ func TestDepth(t *testing.T) {
 	} {
 		for n, want := range map[int]int{deep: api.Done, deep + 1: api.Dead} {
 			text := c.before + "print(" + strings.Replace(c.call, "N", fmt.Sprint(n), 1) + ");"
-			got := run(mustCompile(t, text), nil)
+			got := run(t, mustCompile(t, text), nil)
 			last := got[len(got)-1]
 			if last.Kind != want || want == api.Dead && last.Text != "depth" {
 				t.Errorf("%q: %s", text, told(got))

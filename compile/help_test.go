@@ -92,7 +92,7 @@ func checkDoes(t *testing.T, l []does) {
 		if got := told(walk(n, c.inputs)); got != c.want {
 			t.Errorf("%.300q: the program does\n%s, want\n%s", c.text, got, c.want)
 		}
-		if got := told(run(mustCompile(t, c.text), c.inputs)); got != c.want {
+		if got := told(run(t, mustCompile(t, c.text), c.inputs)); got != c.want {
 			t.Errorf("%.300q: its image does\n%s, want\n%s", c.text, got, c.want)
 		}
 	}
@@ -116,7 +116,7 @@ func checkPrints(t *testing.T, l []prints) {
 	t.Helper()
 	for _, c := range l {
 		n := mustParse(t, c.text)
-		for who, got := range map[string][]api.Event{"the program": walk(n, nil), "its image": run(mustCompile(t, c.text), nil)} {
+		for who, got := range map[string][]api.Event{"the program": walk(n, nil), "its image": run(t, mustCompile(t, c.text), nil)} {
 			if outs(got) != c.want || got[len(got)-1].Kind != api.Done {
 				t.Errorf("%.300q: %s does %s, want prints of %s", c.text, who, told(got), c.want)
 			}

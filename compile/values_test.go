@@ -10,13 +10,13 @@ import (
 // value is one of a run's: nil, a bool, an int, a string, or an *object.
 type value any
 
-// object is an instance, a list, a function, with its identity, or a box, which has none.
+// object is an instance, a list, or a function, with its identity.
 type object struct {
 	kind, id int
-	// name is that of an instance's class; which: its number, or that of a closure's function.
+	// name is that of an instance's class; which: the number of a function's Lambda.
 	name  string
 	which int
-	// has are fields, elements, what a closure holds, or a box has.
+	// has are fields, or elements.
 	has []value
 }
 
@@ -24,7 +24,6 @@ const (
 	isInstance = iota
 	isList
 	isFn
-	isBox
 )
 
 // thrown is a value that is on its way to who catches it.
@@ -33,7 +32,7 @@ type thrown struct{ value value }
 // throw throws a word.
 func throw(word string) { panic(thrown{word}) }
 
-// run's end, behind MaxEvents events.
+// tooMany ends a run behind MaxEvents events.
 type tooMany struct{}
 
 // tape has the events of a run, and gives objects their identities.

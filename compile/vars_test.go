@@ -1,42 +1,6 @@
 package compile
 
-import (
-	"fmt"
-	"strings"
-	"testing"
-
-	"rewind/code"
-)
-
-// seenAt are the events of an image, and behind each the variables of each function that is under way.
-func seenAt(m *code.Image) string {
-	r := &runner{image: m}
-	var l []string
-	r.told = func() {
-		s := told(r.events[len(r.events)-1:])
-		for _, f := range r.frames {
-			s += "[" + strings.Join(seenIn(f), " ") + "]"
-		}
-		l = append(l, s)
-	}
-	r.run()
-	return strings.Join(l, " ")
-}
-
-// seenIn are the variables that a function has by its Vars, where it is under way.
-func seenIn(f *frame) (l []string) {
-	for _, v := range f.function.Vars {
-		if f.at < v.From || f.at > v.To {
-			continue
-		}
-		is := f.slots[v.Slot]
-		if v.Boxed {
-			is = is.(*object).has[0]
-		}
-		l = append(l, fmt.Sprint(v.Name, "=", show(is)))
-	}
-	return l
-}
+import "testing"
 
 // Vars tell which variables are there behind each event: behind its statement's value, in scopes that are not left, in the order of the text.
 func TestVars(t *testing.T) {
@@ -57,8 +21,10 @@ func TestVars(t *testing.T) {
 		"class A { m(x) {\nreturn fn() { x = 9;\nreturn this; }; } }\nprint(new A().m(1)());":               "S4[] S2[][this=A#1 x=1] S2[][] S3[][] O:A#1[] D",
 		"try { throw 1; } catch (e) { var f = fn() { return e; };\nprint(e); }":                             "S1[] S1[] T1:1[] C1[] S1[e=1] S2[e=1 f=fn#1] O:1[e=1 f=fn#1] D",
 		"try { try { var a = 1; throw a; } catch (e) { var b = 2; throw b; } } catch (e) {\nprint(e); }":    "S1[] S1[] S1[] S1[a=1] T1:1[] C1[] S1[e=1] S1[e=1 b=2] T1:2[] C1[] S2[e=2] O:2[e=2] D",
+		// Behind what nobody catches there are none.
+		"var a = 1;\nfn f(b) {\nvar c = 2; throw b; }\ntry { var d = 1;\nthrow d; } catch (e) {\nf(e); }": "S1[] S4[a=1] S4[a=1] S5[a=1 d=1] T5:1[a=1] C5[a=1] S6[a=1 e=1] S3[a=1 e=1][b=1] S3[a=1 e=1][b=1 c=2] T3:1[] X:1",
 	} {
-		if got := seenAt(mustCompile(t, text)); got != want {
+		if got := seenAt(t, mustCompile(t, text)); got != want {
 			t.Errorf("%q:\n%s, want\n%s", text, got, want)
 		}
 	}
