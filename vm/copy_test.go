@@ -100,6 +100,31 @@ func TestCopyIdentities(t *testing.T) {
 	}
 }
 
+// 6.2: a Copy has an image of its own: what others do to that of one machine no other machine sees.
+func TestCopyImage(t *testing.T) {
+	const text, want = "print(1);\nprint(1);", "S1 O:1 S2 O:1 D"
+	for _, looked := range []bool{false, true} {
+		x := doing(t, text, roomy())
+		if looked {
+			x.Image()
+		}
+		y, z := x.Copy(), x.Copy()
+		y.Image().Consts[0].N = 5
+		if got := told(rest(y.Copy())...); got != "S1 O:5 S2 O:5 D" {
+			t.Errorf("a copy of what was changed: %s", got)
+		}
+		clear(y.Image().Funcs[0].Code)
+		for _, m := range []*Machine{x, z} {
+			if got := told(rest(m)...); got != want || m.Image().Consts[0].N != 1 {
+				t.Errorf("another machine, image looked at %v: %s, want %s", looked, got, want)
+			}
+		}
+		if x.Image() == y.Image() || x.Image() == z.Image() || x.Image() != x.Image() {
+			t.Error("two machines have one image, or one has two")
+		}
+	}
+}
+
 // A Copy behind Thrown that nobody caught tells Dead, too.
 func TestCopyOfTheDying(t *testing.T) {
 	x := doing(t, "fn f() { throw [1, \"text\"]; } f();", roomy(1))
